@@ -1,0 +1,99 @@
+"""Some of the rules of the language that a look at the files can check."""
+
+import ast
+import pathlib
+import unittest
+
+PACKAGE = pathlib.Path(__file__).resolve().parent.parent / "toldonward"
+
+LIBRARY = {"heapq": {"heappush", "heappop", "heapify", "heapreplace", "heappushpop"},
+           "math": {"gcd", "lcm", "isqrt", "comb", "perm", "factorial"},
+           "itertools": {"product", "combinations", "permutations"}}
+
+BUILTINS = set(
+    "len range enumerate zip min max sum abs sorted reversed int str bool list tuple dict set frozenset isinstance "
+    "ord repr any all divmod map iter next Exception ValueError TypeError KeyError IndexError LookupError "
+    "ZeroDivisionError ArithmeticError OverflowError RuntimeError NotImplementedError AttributeError StopIteration "
+    "NotImplemented property staticmethod classmethod super".split())
+
+BARRED = (ast.AsyncFunctionDef, ast.Global, ast.Div, ast.TypeAlias if hasattr(ast, "TypeAlias") else ast.Global)
+
+INTERFACE = {
+    "errors.py": ["ToldError"],
+    "programs.py": ["Program"],
+    "truth.py": ["true_words", "true_word", "true_run"],
+}
+
+PROGRAM_METHODS = {"__init__", "__eq__", "cells", "derived_names", "effect_names", "body", "row_paths", "row_at",
+                   "with_row"}
+
+
+def files():
+    return sorted(PACKAGE.glob("*.py"))
+
+
+class LanguageTest(unittest.TestCase):
+    def test_the_folder_holds_plain_files_only(self):
+        for path in PACKAGE.iterdir():
+            if path.name != "__pycache__":
+                self.assertRegex(path.name, r"^[a-z0-9_]+\.py$")
+
+    def test_sizes_and_characters(self):
+        for path in files():
+            text = path.read_bytes()
+            self.assertTrue(all(byte == 10 or 32 <= byte <= 126 for byte in text), path.name)
+            lines = text.decode("ascii").split("\n")
+            self.assertLessEqual(len(lines), 399, path.name)
+            self.assertLessEqual(max(map(len, lines)), 120, path.name)
+            for node in ast.walk(ast.parse(text)):
+                if isinstance(node, ast.FunctionDef):
+                    self.assertLessEqual(node.end_lineno - node.lineno + 1, 40, node.name)
+
+    def test_imports(self):
+        for path in files():
+            tree = ast.parse(path.read_text())
+            for node in ast.walk(tree):
+                self.assertNotIsInstance(node, ast.Import, path.name)
+                if isinstance(node, ast.ImportFrom):
+                    self.assertIn(node, tree.body, path.name)
+                    self.assertEqual(node.level, 0, path.name)
+                    for alias in node.names:
+                        self.check_import(path, node.module, alias)
+
+    def check_import(self, path, module, alias):
+        if module in LIBRARY:
+            self.assertIn(alias.name, LIBRARY[module], path.name)
+            self.assertIsNone(alias.asname, path.name)
+            return
+        folder, _, name = module.partition(".")
+        self.assertEqual(folder, "toldonward", path.name)
+        self.assertIn(alias.name, self.defined_in(PACKAGE / (name + ".py")), path.name)
+
+    def defined_in(self, path):
+        names = set()
+        for node in ast.parse(path.read_text()).body:
+            if isinstance(node, (ast.FunctionDef, ast.ClassDef)):
+                names.add(node.name)
+            if isinstance(node, ast.Assign):
+                names.update(target.id for target in node.targets)
+        return names
+
+    def test_names_and_statements(self):
+        builtins = set(dir(__builtins__)) if not isinstance(__builtins__, dict) else set(__builtins__)
+        for path in files():
+            for node in ast.walk(ast.parse(path.read_text())):
+                self.assertNotIsInstance(node, BARRED, path.name)
+                if isinstance(node, ast.Name):
+                    self.assertTrue(node.id not in builtins or node.id in BUILTINS, (path.name, node.id))
+                if isinstance(node, ast.Constant):
+                    self.assertNotIsInstance(node.value, float, path.name)
+                if isinstance(node, ast.arg):
+                    self.assertNotIn(node.arg, builtins, path.name)
+
+    def test_the_interface_stands_in_its_files(self):
+        for name, due in INTERFACE.items():
+            self.assertLessEqual(set(due), self.defined_in(PACKAGE / name))
+        for node in ast.parse((PACKAGE / "programs.py").read_text()).body:
+            if isinstance(node, ast.ClassDef):
+                methods = {part.name for part in node.body if isinstance(part, ast.FunctionDef)}
+                self.assertLessEqual(PROGRAM_METHODS, methods)

@@ -1,0 +1,1 @@
+"""How a change spreads from sources to derived cells and effects."""
