@@ -22,10 +22,18 @@ INTERFACE = {
     "errors.py": ["ToldError"],
     "programs.py": ["Program"],
     "truth.py": ["true_words", "true_word", "true_run"],
+    "rules.py": ["Rule", "all_rules"],
+    "standings.py": ["is_standing", "is_deed", "deeds"],
+    "reasons.py": ["telling", "is_reason", "is_lever", "lever_words", "least_reasons", "least_levers",
+                   "deciding_sources", "certainty", "shares"],
+    "why.py": ["reached", "reasons_within", "kept_reach", "wasted", "steering"],
 }
 
-PROGRAM_METHODS = {"__init__", "__eq__", "cells", "derived_names", "effect_names", "body", "row_paths", "row_at",
-                   "with_row"}
+METHODS = {
+    "Program": {"__init__", "__eq__", "cells", "derived_names", "effect_names", "body", "row_paths", "row_at",
+                "with_row"},
+    "Rule": {"__init__", "__eq__"},
+}
 
 
 def files():
@@ -93,7 +101,18 @@ class LanguageTest(unittest.TestCase):
     def test_the_interface_stands_in_its_files(self):
         for name, due in INTERFACE.items():
             self.assertLessEqual(set(due), self.defined_in(PACKAGE / name))
-        for node in ast.parse((PACKAGE / "programs.py").read_text()).body:
-            if isinstance(node, ast.ClassDef):
-                methods = {part.name for part in node.body if isinstance(part, ast.FunctionDef)}
-                self.assertLessEqual(PROGRAM_METHODS, methods)
+            for node in ast.parse((PACKAGE / name).read_text()).body:
+                if isinstance(node, ast.ClassDef) and node.name in due:
+                    methods = {part.name for part in node.body if isinstance(part, ast.FunctionDef)}
+                    self.assertLessEqual(METHODS.get(node.name, set()), methods)
+
+    def test_no_two_files_import_from_each_other(self):
+        behind = {}
+        for path in files():
+            nodes = [node for node in ast.parse(path.read_text()).body if isinstance(node, ast.ImportFrom)]
+            behind[path.stem] = {node.module.partition(".")[2] for node in nodes if node.module not in LIBRARY}
+        while behind:
+            ends = [name for name, others in behind.items() if not others & set(behind)]
+            self.assertTrue(ends, behind)
+            for name in ends:
+                del behind[name]

@@ -70,11 +70,16 @@ def run_truly(program, known, rows):
     return run
 
 
+def is_start(program, words):
+    """True for a tuple with one word of the program for each source."""
+    if not isinstance(words, tuple) or len(words) != len(program.sources):
+        return False
+    return all([word in program.words for word in words])
+
+
 def check_start(program, words):
     """Raise InvalidStart unless words has one word of the program for each source."""
-    if not isinstance(words, tuple) or len(words) != len(program.sources):
-        raise InvalidStart(words)
-    if not all([word in program.words for word in words]):
+    if not is_start(program, words):
         raise InvalidStart(words)
 
 
