@@ -42,7 +42,8 @@ class Maker:
         if form == "put":
             return (form, self.new_slot(), self.dice.choice(self.words))
         if form == "if":
-            return (form, self.old_slot(), self.dice.choice(self.words), self.rows(depth + 1, 1), self.rows(depth + 1, 0))
+            head = (form, self.old_slot(), self.dice.choice(self.words))
+            return head + (self.rows(depth + 1, 1), self.rows(depth + 1, 0))
         if form == "write":
             return (form, self.dice.choice(self.sources), self.old_slot())
         return (form, self.old_slot())

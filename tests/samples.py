@@ -6,11 +6,26 @@ WORDS = ("off", "on")
 COPY = (("read", "s", "x"), ("give", "x"))
 SAY_D = (("read", "s", "x"), ("read", "d", "y"), ("say", "y"))
 
+ON = ("write", "s", "on")
+OFF = ("write", "s", "off")
+# A body that reads s and gives the same word always.
+SAME = (("read", "s", "x"), ("give", "y"))
+
 # Values that are neither a name, nor a tuple, nor a right path.
 ODD_VALUES = [None, True, False, 0, 1, -1, 10 ** 30, "", "off", "derived", [], {}, {"a": 1}, [[]], ["off", "on"]]
 
 NO_NAMES = ["", "ninechars", "Off", "oF", "o1", "o f", " off", "off ", "o-f", "o_f", "\n", "off\n", "\u00e9", "\u0430",
             None, True, False, 0, 1, ("off",), ["off"], {"off": 1}, (), [], {}]
+
+
+def say(cell):
+    """The body of an effect that says the word of the cell."""
+    return (("read", cell, "x"), ("say", "x"))
+
+
+def give(cell):
+    """The body of a derived cell that gives the word of the cell."""
+    return (("read", cell, "x"), ("give", "x"))
 
 
 def example():

@@ -3,50 +3,21 @@
 import copy
 import unittest
 
-from tests.samples import COPY, ODD_VALUES, WORDS, example
-from tests.test_deep_values import deep_values
+from tests.cases import RIGHT_DEEDS, THREE, WRONG_DEEDS, deep_values
+from tests.samples import ODD_VALUES, WORDS, example
 from toldonward.programs import Program
 from toldonward.standings import deeds, is_deed
 
-PROGRAM = Program(("off", "on", "mid"), ("s", "t", "u"), (("d", COPY), ("b", COPY)), (("e", ()),))
-
 
 class IsDeedTest(unittest.TestCase):
-    RIGHT = [
-        ("write", "s", "off"), ("write", "t", "on"), ("write", "u", "mid"),
-        ("batch", (("s", "on"),)), ("batch", (("t", "on"), ("s", "on"))), ("batch", (("s", "mid"), ("t", "mid"))),
-        ("batch", (("s", "on"), ("t", "off"), ("u", "mid"))), ("batch", (("u", "on"), ("t", "off"), ("s", "mid"))),
-        ("read", "s"), ("read", "u"), ("read", "d"), ("read", "b"),
-    ]
-    WRONG = [
-        ("write", "q", "on"), ("write", "d", "on"), ("write", "e", "on"), ("write", "on", "on"), ("write", "s", "top"),
-        ("write", "s", "s"), ("write", "s", ""), ("write", "s", "ON"), ("write", "s"), ("write", "s", "on", "on"),
-        ("write",), ("write", ("s", "on")), ("write", (("s", "on"),)), ("write", None, "on"), ("write", "s", None),
-        ("write", 0, 0), ("write", "s", True), ("write", ["s"], "on"), ("write", "s", ["on"]), ("write", {}, {}),
-        ["write", "s", "on"], ("Write", "s", "on"), ("set", "s", "on"), (None, "s", "on"), (True, "s", "on"),
-        ("s", "on"), "write", "write s on", ("", "s", "on"), (("write",), "s", "on"), (["write"], "s", "on"),
-        ("batch", ()), ("batch",), ("batch", (("s", "on"),), ()), ("batch", [("s", "on")]), ("batch", ("s", "on")),
-        ("batch", (["s", "on"],)), ("batch", (("s", "on"), ("s", "on"))), ("batch", (("s", "on"), ("s", "off"))),
-        ("batch", (("s", "on"), ("t", "on"), ("s", "off"))), ("batch", (("d", "on"),)), ("batch", (("s", "top"),)),
-        ("batch", (("q", "on"),)), ("batch", (("s", "on"), ("q", "on"))), ("batch", (("s", "on"), ("d", "on"))),
-        ("batch", (("s", "on"), ("t", "top"))), ("batch", (("s", "on"), ())), ("batch", (("s",),)),
-        ("batch", (("s", "on", "on"),)), ("batch", (("write", "s", "on"),)), ("batch", "so"), ("batch", None),
-        ("batch", 0), ("batch", {"s": "on"}), ("batch", ((None, None),)), ("batch", (None,)), ("batch", ("s",)),
-        ("batch", (("s", "on"), None)), ("batch", "s", "on"), ["batch", (("s", "on"),)], ("batch", (("s", ["on"]),)),
-        ("batch", (("s", True),)), ("batch", ((["s"], "on"),)),
-        ("read",), ("read", "q"), ("read", "e"), ("read", "on"), ("read", ""), ("read", None), ("read", 0),
-        ("read", True), ("read", ("s",)), ("read", ["s"]), ("read", {}), ("read", "s", "on"), ["read", "s"],
-        ("peek", "s"), ("say", "s"), ("give", "s"), ("READ", "s"), ("s",), (None, "s"), ("s", "read"),
-    ]
-
     def test_right_deeds(self):
-        for deed in self.RIGHT:
-            self.assertIs(is_deed(PROGRAM, deed), True, deed)
+        for deed in RIGHT_DEEDS:
+            self.assertIs(is_deed(THREE, deed), True, deed)
 
     def test_wrong_deeds(self):
-        for deed in self.WRONG + ODD_VALUES + [(), ((),), ((), ()), ((), (), ())]:
+        for deed in WRONG_DEEDS + ODD_VALUES + [(), ((),), ((), ()), ((), (), ())]:
             before = copy.deepcopy(deed)
-            self.assertIs(is_deed(PROGRAM, deed), False, deed)
+            self.assertIs(is_deed(THREE, deed), False, deed)
             self.assertEqual(deed, before)
 
     def test_deep_values(self):
@@ -54,11 +25,11 @@ class IsDeedTest(unittest.TestCase):
             for deed in (value, (value,), (value, value), ("read", value), ("batch", value), ("batch", (value,)),
                          ("batch", ((value, "on"),)), ("batch", (("s", value),)), ("batch", (("s", "on"), value)),
                          ("write", value, "on"), ("write", "s", value), (value, "s", "on"), (value, "s")):
-                self.assertIs(is_deed(PROGRAM, deed), False)
+                self.assertIs(is_deed(THREE, deed), False)
 
     def test_all_listed_deeds_are_right(self):
-        for deed in deeds(PROGRAM):
-            self.assertTrue(is_deed(PROGRAM, deed))
+        for deed in deeds(THREE):
+            self.assertTrue(is_deed(THREE, deed))
 
     def test_deeds_belong_to_a_program(self):
         self.assertFalse(is_deed(example(), ("read", "b")))
@@ -87,7 +58,7 @@ class DeedsTest(unittest.TestCase):
         self.assertEqual(deeds(program, batches=False), writes + reads)
 
     def test_three_sources(self):
-        found = deeds(PROGRAM)
+        found = deeds(THREE)
         self.assertEqual(len(found), 9 + 27 + 2)
         self.assertEqual(found[:9], [("write", source, word) for source in "stu" for word in ("off", "on", "mid")])
         self.assertEqual(found[9:19], [
@@ -97,20 +68,21 @@ class DeedsTest(unittest.TestCase):
             ("batch", (("s", "on"), ("t", "off"))), ("batch", (("s", "on"), ("t", "on"))),
             ("batch", (("s", "on"), ("t", "mid"))), ("batch", (("s", "on"), ("u", "off"))),
         ])
-        self.assertEqual(found[27:29], [("batch", (("t", "off"), ("u", "off"))), ("batch", (("t", "off"), ("u", "on")))])
+        self.assertEqual(found[27:29],
+                         [("batch", (("t", "off"), ("u", "off"))), ("batch", (("t", "off"), ("u", "on")))])
         self.assertEqual(found[35:], [("batch", (("t", "mid"), ("u", "mid"))), ("read", "d"), ("read", "b")])
-        self.assertEqual(deeds(PROGRAM, batches=False), found[:9] + found[36:])
+        self.assertEqual(deeds(THREE, batches=False), found[:9] + found[36:])
 
     def test_no_derived_cells(self):
         program = Program(WORDS, ("s",), (), (("e", ()),))
         self.assertEqual(deeds(program), [("write", "s", "off"), ("write", "s", "on")])
 
     def test_a_new_list_each_time(self):
-        first = deeds(PROGRAM)
+        first = deeds(THREE)
         self.assertIs(type(first), list)
         due = list(first)
         first.clear()
-        self.assertEqual(deeds(PROGRAM), due)
+        self.assertEqual(deeds(THREE), due)
 
     def test_batches_is_passed_by_name(self):
-        self.assertRaises(TypeError, deeds, PROGRAM, True)
+        self.assertRaises(TypeError, deeds, THREE, True)

@@ -3,23 +3,11 @@
 import copy
 import unittest
 
+from tests.cases import deep_values
 from tests.samples import WORDS, example, nested
 from toldonward.errors import InvalidPath, InvalidProgram, InvalidStart
 from toldonward.programs import Program
 from toldonward.truth import true_run, true_word, true_words
-
-
-def deep_values():
-    """Tuples, lists, dicts and if rows that are nested 20 deep and somewhat deeper."""
-    values = []
-    for times in (20, 25):
-        for wrap in (lambda x: (x,), lambda x: [x], lambda x: {"a": x}, lambda x: ("if", "x", "on", (x,), ()),
-                     lambda x: ("if", "x", "on", (), (x, x)), lambda x: ("derived", x, 0)):
-            value = "s"
-            for _ in range(times):
-                value = wrap(value)
-            values.append(value)
-    return values
 
 
 class DeepTest(unittest.TestCase):

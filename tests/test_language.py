@@ -27,12 +27,19 @@ INTERFACE = {
     "reasons.py": ["telling", "is_reason", "is_lever", "lever_words", "least_reasons", "least_levers",
                    "deciding_sources", "certainty", "shares"],
     "why.py": ["reached", "reasons_within", "kept_reach", "wasted", "steering"],
+    "spreading.py": ["Step", "begin", "step"],
+    "judge.py": ["KINDS", "faults", "runs_of"],
+    "live.py": ["Pack", "Live"],
 }
 
 METHODS = {
     "Program": {"__init__", "__eq__", "cells", "derived_names", "effect_names", "body", "row_paths", "row_at",
                 "with_row"},
     "Rule": {"__init__", "__eq__"},
+    "Step": {"__init__"},
+    "Pack": {"__init__", "__setitem__", "__len__", "__contains__", "writes"},
+    "Live": {"__init__", "__setitem__", "__len__", "bound", "set_bound", "write", "write_pack", "read", "perform",
+             "full_log", "standing", "last_events", "deeds_done", "fork", "undo"},
 }
 
 

@@ -16,7 +16,8 @@ from toldonward.why import kept_reach, reached, reasons_within, steering
 
 def all_sets(program):
     """All sets of sources in the order of point 53."""
-    return [chosen for size in range(len(program.sources) + 1) for chosen in itertools.combinations(program.sources, size)]
+    sizes = range(len(program.sources) + 1)
+    return [chosen for size in sizes for chosen in itertools.combinations(program.sources, size)]
 
 
 def all_words(program):

@@ -3,8 +3,8 @@
 import copy
 import unittest
 
-from tests.samples import COPY, ODD_VALUES, WORDS, example
-from tests.test_deep_values import deep_values
+from tests.cases import ErrorCase, deep_values
+from tests.samples import ODD_VALUES, WORDS, example
 from toldonward.errors import InvalidSources, InvalidStart, UnknownCell
 from toldonward.programs import Program
 from toldonward.reasons import (certainty, deciding_sources, is_lever, is_reason, least_levers, least_reasons,
@@ -16,9 +16,10 @@ SAYS = (("read", "d", "x"), ("peek", "t", "y"), ("say", "y"), ("write", "s", "x"
 TWO = Program(WORDS, ("s", "t"), (("d", BOTH), ("n", (("read", "s", "x"), ("give", "y")))), (("e", SAYS), ("f", ())))
 ALL_OFF = ("off", "off")
 ALL_ON = ("on", "on")
-NO_SETS = ODD_VALUES + ["s", "st", ("t", "s"), ("s", "s"), ("s", "t", "s"), ("t", "t"), ["s"], ["s", "t"], [], {}, ("d",),
-                        ("s", "d"), ("e",), ("q",), ("on",), (None,), ("s", None), (True,), (0,), (("s",),), (["s"],),
-                        {"s": True}, (("s", "off"),), ((),), None, True, False]
+NO_SETS = ODD_VALUES + [
+    "s", "st", ("t", "s"), ("s", "s"), ("s", "t", "s"), ("t", "t"), ["s"], ["s", "t"], ("d",), ("s", "d"), ("e",), ("q",),
+    ("on",), (None,), ("s", None), (True,), (0,), (("s",),), (["s"],), {"s": True}, (("s", "off"),), ((),),
+]
 
 
 def four():
@@ -193,41 +194,35 @@ class ShareTest(unittest.TestCase):
             self.assertEqual([type(fraction), type(fraction[0]), type(fraction[1])], [tuple, int, int])
 
 
-class WrongTest(unittest.TestCase):
+class WrongTest(ErrorCase):
     CALLS = [telling, least_reasons, least_levers, deciding_sources, shares]
     CALLS_WITH_SETS = [is_reason, is_lever, lever_words, certainty]
     WRONG_WORDS = ODD_VALUES + [(), ("on",), ("on", "on", "on"), ("on", "up"), ["on", "on"], ("on", None), ("s", "t"),
                                 ("on", ["on"]), "onon"]
     WRONG_NAMES = ["s", "t", "q", "x", "on", "", None, True, 0, ("d",), ["d"], {}]
 
-    def raises(self, error, attribute, value, call, *arguments):
-        with self.assertRaises(error) as caught:
-            call(*arguments)
-        self.assertEqual(vars(caught.exception), {attribute: value})
-        self.assertIs(getattr(caught.exception, attribute), value)
-
     def test_wrong_words_come_first(self):
         for words in self.WRONG_WORDS + deep_values():
             for name in ("d", "e", "s", "q", None, []):
                 for call in self.CALLS:
-                    self.raises(InvalidStart, "words", words, call, TWO, words, name)
+                    self.raises(InvalidStart, {"words": words}, call, TWO, words, name)
                 for call in self.CALLS_WITH_SETS:
                     for sources in ((), ("s",), ["s"], None):
-                        self.raises(InvalidStart, "words", words, call, TWO, words, name, sources)
+                        self.raises(InvalidStart, {"words": words}, call, TWO, words, name, sources)
 
     def test_then_names(self):
         for name in self.WRONG_NAMES + deep_values():
             for call in self.CALLS:
-                self.raises(UnknownCell, "name", name, call, TWO, ALL_ON, name)
+                self.raises(UnknownCell, {"name": name}, call, TWO, ALL_ON, name)
             for call in self.CALLS_WITH_SETS:
                 for sources in ((), ("s",), ["s"], None):
-                    self.raises(UnknownCell, "name", name, call, TWO, ALL_ON, name, sources)
+                    self.raises(UnknownCell, {"name": name}, call, TWO, ALL_ON, name, sources)
 
     def test_then_sets(self):
         for value in NO_SETS + deep_values():
             for call in (lever_words, certainty):
                 for name in ("d", "n", "e"):
-                    self.raises(InvalidSources, "sources", value, call, TWO, ALL_ON, name, value)
+                    self.raises(InvalidSources, {"sources": value}, call, TWO, ALL_ON, name, value)
 
     def test_arguments_by_name(self):
         given = {"program": TWO, "words": ALL_ON, "name": "d"}

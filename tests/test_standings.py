@@ -4,9 +4,9 @@ import copy
 import random
 import unittest
 
+from tests.cases import deep_values
 from tests.made import made_program, made_standing
 from tests.samples import COPY, ODD_VALUES, WORDS
-from tests.test_deep_values import deep_values
 from toldonward.programs import Program
 from toldonward.rules import Rule, all_rules
 from toldonward.standings import is_standing

@@ -3,8 +3,8 @@
 import copy
 import unittest
 
+from tests.cases import deep_values
 from tests.samples import ODD_VALUES, WORDS, example
-from tests.test_deep_values import deep_values
 from toldonward.errors import InvalidStanding, InvalidStart, UnknownCell
 from toldonward.programs import Program
 from toldonward.rules import Rule, all_rules
@@ -101,7 +101,8 @@ class KeptReachTest(unittest.TestCase):
 class WastedTest(unittest.TestCase):
     # "e" says the word of d; "f" says a word that is always the same; "g" has no rows.
     PROGRAM = Program(WORDS, ("s", "t"), (("d", BOTH),), (
-        ("e", (("read", "d", "x"), ("say", "x"))), ("f", (("read", "s", "x"), ("read", "t", "x"), ("say", "y"))), ("g", ()),
+        ("e", (("read", "d", "x"), ("say", "x"))),
+        ("f", (("read", "s", "x"), ("read", "t", "x"), ("say", "y"))), ("g", ()),
     ))
 
     def standing(self, words):

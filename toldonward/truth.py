@@ -1,19 +1,17 @@
 """True words, and runs that are told nothing but true words."""
 
 from toldonward.errors import InvalidStart, UnknownCell
+from toldonward.records import Record
 
 
-class TrueRun:
+class TrueRun(Record):
     """A run that is told the known words, and what it has noted and done so far."""
 
     def __init__(self, default, known):
+        Record.__init__(self)
         self.default = default
         self.known = known
         self.slots = {}
-        self.noted = {}
-        self.peeked = {}
-        self.said = []
-        self.written = []
         self.given = default
 
     def word_in(self, slot):
@@ -112,10 +110,6 @@ def true_run(program, words, name):
     check_start(program, words)
     rows = program.body(name)
     run = run_truly(program, known_words(program, words), rows)
-    return {
-        "notes": tuple(run.noted.items()),
-        "peeks": tuple(run.peeked.items()),
-        "says": tuple(run.said),
-        "writes": tuple(run.written),
-        "word": run.given if name in program.derived_names() else None,
-    }
+    if name in program.effect_names():
+        run.given = None
+    return run.parts()
