@@ -4,7 +4,7 @@ import random
 import unittest
 
 from tests.made import made_deed, made_program, made_standing, made_words
-from tests.samples import COPY, OFF, ON, WORDS, example, give
+from tests.samples import COPY, OFF, ON, WORDS, example, give, say
 from tests.told import history, short
 from toldonward.errors import TooManyRuns
 from toldonward.judge import KINDS, faults, runs_of
@@ -196,6 +196,39 @@ class OrderTest(unittest.TestCase):
             ("mixed", "f"), ("mixed", "e"), ("through", "z"), ("through", "d"), ("twice", "f"), ("twice", "e"),
             ("needless", "f"), ("needless", "e"), ("missed", "f"), ("missed", "e"),
         ])
+
+    def test_all_kinds_in_a_start(self):
+        program = Program(WORDS, ("s", "t"), (("d", COPY),), (("e", ()), ("f", ())))
+        words = (("set", "s", "on"), ("set", "t", "off"))
+        first = (("run", "e"), ("peek", "e", "t", "on"), ("end", "e", None))
+        derived = (("run", "d"), ("read", "d", "s", "off"), ("end", "d", "off"))
+        second = (("run", "f"), ("read", "f", "s", "on"), ("read", "f", "d", "on"), ("end", "f", None))
+        self.assertEqual(faults(program, None, words + first), [("mixed", "e"), ("missed", "e")])
+        self.assertEqual(faults(program, None, words + derived), [("through", "d")])
+        self.assertEqual(faults(program, None, words + second), [])
+        self.assertEqual(faults(program, None, words + second + second), [("twice", "f"), ("needless", "f")])
+        self.assertEqual(faults(program, None, words + second + words[:1]), [])
+        self.assertEqual(faults(program, None, words + second + (("set", "s", "off"),)), [("missed", "f")])
+        written = (("run", "e"), ("write", "e", "t", "off"), ("end", "e", None))
+        self.assertEqual(faults(program, None, words + written + second + second), [("needless", "f")])
+
+    def test_faults_of_real_starts(self):
+        # e writes s, which d, c and itself read and f peeks; g says c, which reads s and d.
+        writer = (("read", "s", "y"), ("read", "d", "x"), ("put", "z", "on"), ("write", "s", "z"))
+        both = (("read", "s", "x"), ("read", "d", "y"), ("give", "y"))
+        program = Program(WORDS, ("s",), (("d", COPY), ("c", both)),
+                          (("g", say("c")), ("f", (("peek", "s", "x"), ("say", "x"))), ("e", writer)))
+        for rule in all_rules():
+            if rule.cut:
+                due = [("missed", "f")]
+                if rule.mode == "push":
+                    due = [("through", "c")] + [("needless", "e")] * (rule.inner == "later") + due
+                self.assertEqual(judged(program, rule, ("off",)), [due])
+
+    def test_an_effect_that_has_no_run_yet(self):
+        events = begin(example(), PUSH, ("off",)).events
+        self.assertEqual(faults(example(), None, events[:1]), [])
+        self.assertEqual(faults(example(), None, ()), [])
 
     def test_a_new_list_each_time(self):
         steps = history(example(), PUSH, ("off",), ON)

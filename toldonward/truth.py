@@ -8,7 +8,7 @@ class TrueRun(Record):
     """A run that is told the known words, and what it has noted and done so far."""
 
     def __init__(self, default, known):
-        Record.__init__(self)
+        super().__init__()
         self.default = default
         self.known = known
         self.slots = {}
