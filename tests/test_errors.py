@@ -80,3 +80,16 @@ class ErrorsTest(unittest.TestCase):
         for name, arguments in ARGUMENTS.items():
             with self.subTest(name), self.assertRaises(ValueError):
                 raise getattr(errors, name)(*arguments)
+
+    def test_each_has_a_text(self):
+        for name, arguments in ARGUMENTS.items():
+            with self.subTest(name):
+                for values in (["d"] * len(arguments), [None] * len(arguments), [("a", ["b"])] * len(arguments)):
+                    error = getattr(errors, name)(*values)
+                    self.assertIs(type(str(error)), str)
+                    self.assertTrue(repr(error).startswith(name + "("))
+
+    def test_they_are_not_kinds_of_each_other(self):
+        for name in ARGUMENTS:
+            for other in ARGUMENTS:
+                self.assertEqual(issubclass(getattr(errors, name), getattr(errors, other)), name == other)

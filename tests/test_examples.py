@@ -3,15 +3,26 @@
 import unittest
 
 from tests.samples import example
-from toldonward.errors import InvalidProgram, TooManyRuns
+from toldonward.alike import classes, difference, parting
+from toldonward.books import Book
+from toldonward.counting import costs, most_runs
+from toldonward.desk import Desk
+from toldonward.errors import InvalidProgram, InvalidText, LimitExceeded, TooManyRuns
+from toldonward.heals import heals, rules_free, with_changes
 from toldonward.judge import faults
 from toldonward.live import Live
+from toldonward.plain import is_plain, plain_begin
 from toldonward.programs import Program
 from toldonward.reasons import least_levers, least_reasons, shares
 from toldonward.rules import Rule
 from toldonward.spreading import begin, step
+from toldonward.texts import format_deeds, parse_program
 from toldonward.truth import true_run
+from toldonward.verdicts import Verdict
 from toldonward.why import reached, steering
+
+
+PUSH = Rule("push", True, "later")
 
 
 def both():
@@ -85,3 +96,56 @@ class ExamplesTest(unittest.TestCase):
         self.assertEqual(begin(program, Rule("level", True, "once"), ("off",)).events, (
             ("set", "s", "off"), ("run", "e"), ("read", "e", "s", "off"), ("write", "e", "s", "off"),
             ("end", "e", None)))
+
+    def test_texts(self):
+        with self.assertRaises(InvalidText) as caught:
+            parse_program("words off on\nsources s\neffect e\nsay\n")
+        self.assertEqual(caught.exception.line, 4)
+        deeds = [("write", "s", "on"), ("batch", (("s", "off"), ("t", "on"))), ("read", "d")]
+        self.assertEqual(format_deeds(deeds), "write s on\nbatch s off t on\nread d\n")
+
+    def test_books(self):
+        book = Book(example(), PUSH)
+        self.assertEqual(len(book), 4)
+        self.assertEqual(book.faults(), [("mixed", "e"), ("twice", "e"), ("needless", "e")])
+        self.assertEqual(book.least_fault("needless", "e"), (("off",), (("write", "s", "on"), ("write", "s", "off"))))
+        with self.assertRaises(LimitExceeded) as caught:
+            Book(example(), PUSH, limit=3)
+        self.assertEqual(caught.exception.limit, 3)
+
+    def test_difference(self):
+        self.assertEqual(difference((example(), PUSH), (example(), Rule("level", True, "later"))),
+                         (("off",), (("write", "s", "on"),)))
+
+    def test_classes_and_parting(self):
+        book = Book(example(), PUSH)
+        standings = book.standings()
+        self.assertEqual([classes(book), parting(book, standings[0], standings[3])],
+                         [[[0], [1], [2], [3]], (("write", "s", "on"),)])
+
+    def test_plain(self):
+        self.assertEqual(plain_begin(example(), ("off",)),
+                         ((("off",), ((("s", "off"), ("d", "off")),)), (("e", "off"),)))
+        self.assertEqual([is_plain(example(), Rule("pull", True, "later")), is_plain(example(), PUSH)], [True, False])
+
+    def test_counting(self):
+        self.assertEqual(costs(example(), (("off",), (("write", "s", "on"),))),
+                         [(3, 2), (3, 2), (3, 2), (3, 2), (2, 2), (2, 2), (2, 2), (2, 2), (2, 2), (2, 2), (2, 2), (2, 2)])
+        self.assertEqual(most_runs(Book(example(), PUSH), "e"), (2, (("off",), (("write", "s", "on"),))))
+
+    def test_heals(self):
+        self.assertEqual(with_changes(example(), [("early", ("effects", 0, 1))]).body("e"),
+                         (("read", "d", "a"), ("read", "s", "x"), ("read", "d", "y"), ("say", "y")))
+        candidates = [("peek", ("effects", 0, 0)), ("early", ("effects", 0, 1))]
+        self.assertEqual(heals(example(), PUSH, "mixed", candidates),
+                         [(("peek", ("effects", 0, 0)),), (("early", ("effects", 0, 1)),)])
+        self.assertEqual(len(rules_free(example(), ["mixed"])), 8)
+
+    def test_verdicts(self):
+        first = Verdict([("twice", "e"), ("mixed", "e")])
+        self.assertEqual((first | Verdict([("mixed", "d")])).pairs(), [("mixed", "d"), ("mixed", "e"), ("twice", "e")])
+
+    def test_desk(self):
+        desk = Desk(example(), [PUSH])
+        desk[("effects", 0, 0)] = ("peek", "s", "x")
+        self.assertEqual([desk.current.body("e"), len(desk)], [(("peek", "s", "x"), ("read", "d", "y"), ("say", "y")), 1])

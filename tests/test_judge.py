@@ -5,13 +5,14 @@ import unittest
 
 from tests.made import made_deed, made_program, made_standing, made_words
 from tests.samples import COPY, OFF, ON, WORDS, example, give, say
+from tests.second import due_faults
 from tests.told import history, short
 from toldonward.errors import TooManyRuns
 from toldonward.judge import KINDS, faults, runs_of
 from toldonward.programs import Program
 from toldonward.rules import Rule, all_rules
 from toldonward.spreading import begin, step
-from toldonward.truth import true_run, true_word
+from toldonward.truth import true_run
 
 PUSH = Rule("push", True, "later")
 PUSH_ONCE = Rule("push", True, "once")
@@ -277,44 +278,6 @@ class RunsOfTest(unittest.TestCase):
         for run in runs_of(events=events):
             for key in ("notes", "peeks", "says", "writes"):
                 self.assertIs(type(run[key]), tuple)
-
-
-def due_faults(program, before, events):
-    """A second way to find the faults, kind by kind, straight from the words of point 26."""
-    effects = program.effect_names()
-
-    def words_at(place):
-        words = dict(zip(program.sources, before[0])) if before else {}
-        words.update((event[1], event[2]) for event in events[:place] if event[0] == "set")
-        return tuple(words[source] for source in program.sources)
-
-    def runs_of_name(name):
-        found = [dict(enumerate(before[2][effects.index(name)]))] if before else []
-        for event in events:
-            if event[:2] == ("run", name):
-                found.append({0: (), 1: ()})
-            elif event[0] in ("read", "peek") and event[1] == name:
-                part = ("read", "peek").index(event[0])
-                if event[2] not in [cell for cell, _ in found[-1][part]]:
-                    found[-1][part] += (event[2:],)
-        return found
-
-    found = []
-    for place, event in enumerate(events):
-        if event[0] in ("read", "peek") and true_word(program, words_at(place), event[2]) != event[3]:
-            found.append(("mixed" if event[1] in effects else "through", event[1]))
-    for name in effects:
-        runs = runs_of_name(name)
-        many = sum(event[:2] == ("run", name) for event in events)
-        if many > 1 and all(event[0] != "write" for event in events):
-            found.append(("twice", name))
-        if any(runs[place - 1][0] == runs[place][0] for place in range(1, len(runs))):
-            found.append(("needless", name))
-        told = runs[-1][0] + runs[-1][1] if runs else ()
-        if any(true_word(program, words_at(len(events)), cell) != word for cell, word in told):
-            found.append(("missed", name))
-    places = program.cells() + effects
-    return sorted(set(found), key=lambda pair: (KINDS.index(pair[0]), places.index(pair[1])))
 
 
 class ManyFaultsTest(unittest.TestCase):

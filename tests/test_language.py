@@ -30,6 +30,14 @@ INTERFACE = {
     "spreading.py": ["Step", "begin", "step"],
     "judge.py": ["KINDS", "faults", "runs_of"],
     "live.py": ["Pack", "Live"],
+    "texts.py": ["format_program", "parse_program", "format_deeds", "parse_deeds"],
+    "books.py": ["Book", "is_closed"],
+    "verdicts.py": ["Verdict"],
+    "alike.py": ["difference", "alike", "parting", "classes"],
+    "plain.py": ["plain_begin", "plain_step", "plain_difference", "is_plain"],
+    "counting.py": ["most_runs", "never_done", "costs"],
+    "heals.py": ["is_change", "with_changes", "heals", "rules_free"],
+    "desk.py": ["Desk"],
 }
 
 METHODS = {
@@ -40,6 +48,12 @@ METHODS = {
     "Pack": {"__init__", "__setitem__", "__len__", "__contains__", "writes"},
     "Live": {"__init__", "__setitem__", "__len__", "bound", "set_bound", "write", "write_pack", "read", "perform",
              "full_log", "standing", "last_events", "deeds_done", "fork", "undo"},
+    "Book": {"__init__", "__len__", "__contains__", "moves", "starts", "standings", "least_run", "follow", "faults",
+             "least_fault", "is_free", "verdict", "way"},
+    "Verdict": {"__init__", "pairs", "kinds", "only", "__or__", "__and__", "__sub__", "__eq__", "__len__",
+                "__contains__"},
+    "Desk": {"__init__", "current", "put_program", "watched", "__ior__", "__getitem__", "__setitem__", "__len__", "undo",
+             "redo", "verdicts", "attempt"},
 }
 
 

@@ -1,10 +1,17 @@
 """The faults of starts and deeds, and the runs in them."""
 
+from toldonward.errors import InvalidKind
 from toldonward.records import Record
 from toldonward.standings import notes_and_peeks
-from toldonward.truth import known_words
+from toldonward.truth import Truths
 
 KINDS = ("mixed", "through", "twice", "needless", "missed", "long")
+
+
+def check_kind(kind):
+    """Raise InvalidKind unless it is a kind of fault."""
+    if kind not in KINDS:
+        raise InvalidKind(kind)
 
 
 def see(record, event):
@@ -43,7 +50,13 @@ def named_parts(name, record):
 
 def faults(program, before, events):
     """The faults of a start or a deed, the kinds in the order of KINDS, then the names in program order."""
-    known = truths(program, before, events)
+    return faults_by(Truths(program), before, events)
+
+
+def faults_by(truths, before, events):
+    """The faults of a start or a deed of the program whose true words these are."""
+    program = truths.program
+    known = known_at_events(truths, before, events)
     found = untrue_faults(program, known, events)
     runs = runs_of(events)
     has_writes = any([event[0] == "write" for event in events])
@@ -60,17 +73,18 @@ def faults(program, before, events):
     return [(kind, name) for kind in KINDS for name in names if (kind, name) in found]
 
 
-def truths(program, before, events):
+def known_at_events(truths, before, events):
     """Dicts with the true words of the cells: ahead of the first event, then behind each event."""
-    held = {} if before is None else dict(zip(program.sources, before[0]))
-    known = {} if before is None else known_words(program, before[0])
+    sources = truths.program.sources
+    held = {} if before is None else dict(zip(sources, before[0]))
+    known = {} if before is None else truths.at_words(before[0])
     found = [known]
     for event in events:
         if event[0] == "set":
             held[event[1]] = event[2]
             # In a start no cell has a true word before all sources are set.
-            if len(held) == len(program.sources):
-                known = known_words(program, tuple([held[source] for source in program.sources]))
+            if len(held) == len(sources):
+                known = truths.at_words(tuple([held[source] for source in sources]))
         found.append(known)
     return found
 

@@ -22,6 +22,9 @@ class Program:
         self.sources = sources
         self.derived = derived
         self.effects = effects
+        # Kept, for they are asked for all the time.
+        self._derived_names = names_of(derived)
+        self._effect_names = names_of(effects)
 
     def __eq__(self, other):
         return (
@@ -34,13 +37,13 @@ class Program:
 
     def cells(self):
         """The names of the sources, then those of the derived cells."""
-        return self.sources + names_of(self.derived)
+        return self.sources + self._derived_names
 
     def derived_names(self):
-        return names_of(self.derived)
+        return self._derived_names
 
     def effect_names(self):
-        return names_of(self.effects)
+        return self._effect_names
 
     def body(self, name):
         """The rows of the derived cell or effect of this name."""

@@ -5,6 +5,9 @@ from toldonward.checks import is_name
 MOST_ROWS = 16
 DEEPEST_IF = 3
 
+# The place of the slot in a row of each form.
+SLOT_PLACES = {"read": 2, "peek": 2, "put": 1, "if": 1, "give": 1, "write": 2, "say": 1}
+
 
 class Scope:
     """What the rows of one body may be and may name."""
@@ -116,3 +119,13 @@ def rows_with(rows, steps, row):
         inner = rows_with(holder[at], steps[2:], row)
         changed = holder[:at] + (inner,) + holder[at + 1:]
     return rows[:place] + (changed,) + rows[place + 1:]
+
+
+def slots_in(rows):
+    """The slots that valid rows name, also those of the rows inside."""
+    slots = []
+    for row in rows:
+        slots.append(row[SLOT_PLACES[row[0]]])
+        if row[0] == "if":
+            slots.extend(slots_in(row[3] + row[4]))
+    return slots

@@ -52,3 +52,11 @@ def agreeing(program, words, sources):
         choices = (word,) if source in sources else program.words
         found = [row + (choice,) for row in found for choice in choices]
     return found
+
+
+def all_words(program):
+    """All words of the sources, in their order: one word of the program for each source."""
+    found = [()]
+    for _ in program.sources:
+        found = [row + (word,) for row in found for word in program.words]
+    return found

@@ -1,7 +1,7 @@
 """Starts and deeds, and what happens in them."""
 
 from toldonward.bounds import check_most
-from toldonward.errors import InvalidDeed, InvalidStanding
+from toldonward.errors import InvalidDeed, InvalidStanding, TooManyRuns
 from toldonward.machine import Machine
 from toldonward.standings import is_deed, is_standing
 from toldonward.truth import check_start
@@ -24,9 +24,7 @@ def begin(program, rule, words, *, most=200):
     """The start of the program under the rule with these words of the sources."""
     check_most(most)
     check_start(program, words)
-    machine = Machine(program, rule, most)
-    machine.start(words)
-    return step_behind(machine, None, None, None)
+    return start_with(program, rule, words, most)
 
 
 def step(program, rule, standing, deed, *, most=200):
@@ -36,10 +34,38 @@ def step(program, rule, standing, deed, *, most=200):
         raise InvalidStanding()
     if not is_deed(program, deed):
         raise InvalidDeed(deed)
+    return deed_from(program, rule, standing, deed, most)
+
+
+def start_with(program, rule, words, most):
+    """The Step of a start that needs no checks."""
+    machine = Machine(program, rule, most)
+    machine.start(words)
+    return step_behind(machine, None, None, None)
+
+
+def deed_from(program, rule, standing, deed, most):
+    """The Step of a deed that needs no checks."""
     machine = Machine(program, rule, most)
     machine.load(standing)
     told = machine.do_deed(deed)
     return step_behind(machine, deed, standing, told)
+
+
+def start_unless_long(program, rule, words, most):
+    """The Step of a start that needs no checks; None if the start is too long."""
+    try:
+        return start_with(program, rule, words, most)
+    except TooManyRuns:
+        return None
+
+
+def deed_unless_long(program, rule, standing, deed, most):
+    """The Step of a deed that needs no checks; None if the deed is too long."""
+    try:
+        return deed_from(program, rule, standing, deed, most)
+    except TooManyRuns:
+        return None
 
 
 def step_behind(machine, deed, before, told):

@@ -75,27 +75,28 @@ def are_readers(program, derived, effects, value):
     """True for a tuple with the readers of each cell; the entries of the bodies are right."""
     if not isinstance(value, tuple) or len(value) != len(program.cells()):
         return False
-    due = readers_due(program, derived, effects)
+    noted = noted_cells(program, derived, effects)
     for cell, names in zip(program.cells(), value):
-        if not isinstance(names, tuple) or len(names) != len(due[cell]):
+        due = [name for name, cells in noted if cell in cells]
+        if not isinstance(names, tuple) or len(names) != len(due):
             return False
         # As many as are due, and each one that is due: so none stands there twice.
-        if not all([name in names for name in due[cell]]):
+        if not all([name in names for name in due]):
             return False
     return True
 
 
-def readers_due(program, derived, effects):
-    """A dict with the names whose notes contain the cell, for each cell."""
-    due = {cell: [] for cell in program.cells()}
-    for name, entry in zip(program.derived_names(), derived):
-        if entry is not None:
-            for cell, _ in entry[2]:
-                due[cell].append(name)
-    for name, entry in zip(program.effect_names(), effects):
-        for cell, _ in entry[0]:
-            due[cell].append(name)
-    return due
+def noted_cells(program, derived, effects):
+    """Pairs of a name and the list of the cells in its notes, for each body that has notes."""
+    noted = [
+        (name, [cell for cell, _ in entry[2]])
+        for name, entry in zip(program.derived_names(), derived) if entry is not None
+    ]
+    effect_notes = [
+        (name, [cell for cell, _ in entry[0]])
+        for name, entry in zip(program.effect_names(), effects)
+    ]
+    return noted + effect_notes
 
 
 def notes_and_peeks(program, standing, name):

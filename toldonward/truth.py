@@ -90,6 +90,20 @@ def known_words(program, words):
     return known
 
 
+class Truths:
+    """The true words of the cells of a program, which are worked out once for the same words of the sources."""
+
+    def __init__(self, program):
+        self.program = program
+        self.known = {}
+
+    def at_words(self, words):
+        """A dict with the true word of each cell; it is only read."""
+        if words not in self.known:
+            self.known[words] = known_words(self.program, words)
+        return self.known[words]
+
+
 def true_words(program, words):
     """The true words of all cells, in the order of the cells."""
     check_start(program, words)
