@@ -216,6 +216,23 @@ class PartingTest(ErrorCase):
         self.assertEqual(parting(book, one, two), (("write", "t", "on"), READ))
         self.assertEqual(parting(book, two, one), (("write", "t", "on"), READ))
 
+    def test_three_deeds_are_needed(self):
+        rows = (("read", "u", "x"), ("give", "x"))
+        for cell in ("t", "s"):
+            rows = (("read", cell, "y"), ("if", "y", "on", rows, ()))
+        program = program_with([], [("d", rows)], ("s", "t", "u"))
+        low, high = ("off", "off", "off"), ("off", "off", "on")
+        writes = (("write", "s", "on"), ("write", "t", "on"))
+        batch = ("batch", (("s", "on"), ("t", "on")))
+        for batches, due in ((False, writes + (READ,)), (True, (batch, READ))):
+            for rule in all_rules():
+                book = Book(program, rule, batches=batches)
+                standings = {standing[0]: standing for standing in book.standings()[::-1]}
+                self.assertEqual(parting(book, standings[low], standings[high]), due)
+                self.assertEqual(parting(book, standings[high], standings[low]), due)
+                pair = ("on", "off", "off"), ("on", "off", "on")
+                self.assertEqual(parting(book, *(standings[words] for words in pair)), writes[1:] + (READ,))
+
     def test_too_long_in_one_of_them(self):
         book = Book(example(), PUSH, most=1)
         self.assertEqual((len(book), classes(book)), (2, [[0], [1]]))

@@ -114,13 +114,12 @@ class DifferenceTest(unittest.TestCase):
         return False
 
     def test_the_other_way_round(self):
-        dice = random.Random(123)
         for case in cases(124, 150):
             first, second = case.pairs()
             if case.first.derived_names() == case.second.derived_names():
                 self.assertEqual(difference(second, first, **case.named), difference(first, second, **case.named))
             self.assertIsNone(difference(first, first, **case.named))
-            self.assertTrue(alike(second, second, batches=dice.random() < 0.5, most=30))
+            self.assertTrue(alike(second, second, **case.named, limit=20000))
 
 
 class ClassesTest(unittest.TestCase):

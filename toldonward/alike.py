@@ -35,32 +35,31 @@ def common_deeds(one, two, says_only, batches):
 
 def parting(book, first, second):
     """The least tuple of deeds that shows a difference between two standings of the book, or None."""
+    survey = book.survey
     one, two = book.place(first), book.place(second)
-    rounds = rounds_of(book.survey)
+    rounds = rounds_of(survey)
     if rounds[-1][one] == rounds[-1][two]:
         return None
-    # The first round in which the two are apart has as many deeds as are needed.
+    # As many deeds are needed as there are rounds in which the two are in one group.
     needed = [groups[one] == groups[two] for groups in rounds].count(True)
-    tuple_so_far = ()
+    least = ()
     while needed > 0:
         needed -= 1
-        deed = first_parting_deed(book.survey, one, two, rounds[needed])
-        tuple_so_far = tuple_so_far + (deed,)
+        groups = rounds[needed]
+        deed = [move for move in survey.deeds if is_parting(survey, move, one, two, groups)][0]
+        least = least + (deed,)
+        # The last deed shows a difference: it may be too long for one of the two, and nothing follows it.
         if needed > 0:
-            one = book.survey.outcomes[one][deed][0]
-            two = book.survey.outcomes[two][deed][0]
-    return tuple_so_far
+            one, two = survey.outcomes[one][deed][0], survey.outcomes[two][deed][0]
+    return least
 
 
-def first_parting_deed(survey, one, two, groups):
-    """The first deed that shows a difference, or behind which the groups are different."""
-    for deed in survey.deeds:
-        first, second = survey.outcomes[one][deed], survey.outcomes[two][deed]
-        if are_apart(first, second):
-            return deed
-        if first is not None and groups[first[0]] != groups[second[0]]:
-            return deed
-    return None
+def is_parting(survey, deed, one, two, groups):
+    """True if the deed shows a difference, or leads to standings that are not in one group."""
+    first, second = survey.outcomes[one][deed], survey.outcomes[two][deed]
+    if are_apart(first, second):
+        return True
+    return first is not None and groups[first[0]] != groups[second[0]]
 
 
 def classes(book):

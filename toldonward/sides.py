@@ -16,17 +16,12 @@ class RuleSide:
         self.program = program
         self.rule = rule
         self.most = most
-        # A standing can stand in many pairs of standings, but its deeds are done once.
-        self.known = {}
 
     def begun(self, words):
         return shown_by(start_unless_long(self.program, self.rule, words, self.most))
 
     def moved(self, standing, deed):
-        if (standing, deed) not in self.known:
-            behind = deed_unless_long(self.program, self.rule, standing, deed, self.most)
-            self.known[(standing, deed)] = shown_by(behind)
-        return self.known[(standing, deed)]
+        return shown_by(deed_unless_long(self.program, self.rule, standing, deed, self.most))
 
 
 def shown_by(behind):
