@@ -125,6 +125,6 @@ def rules_free(program, kinds, *, batches=True, most=200, limit=2000):
     found = []
     for rule in all_rules():
         book = Book(program, rule, batches=batches, most=most, limit=limit)
-        if all([book.is_free(kind) for kind in kinds]):
+        if all([book.is_free(own) for own in kinds]):
             found.append(rule)
     return found

@@ -10,8 +10,8 @@ class Verdict:
         for kind, _ in pairs:
             check_kind(kind)
         self._pairs = tuple([
-            (kind, name) for kind in KINDS
-            for name in sorted(set([own for own_kind, own in pairs if own_kind == kind]))
+            (own, name) for own in KINDS
+            for name in sorted(set([each for pair_kind, each in pairs if pair_kind == own]))
         ])
 
     def pairs(self):
